@@ -1,0 +1,1 @@
+"""Time and cost of processes."""
