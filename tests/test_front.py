@@ -25,7 +25,7 @@ def is_met(pair, pairs):
 def shuffled_tree(chance, size):
     """Some process of this size that the document allows."""
     if size == 1:
-        return chance.choice([A, B, C, A, B, C, NOTHING])
+        return chance.choice([(STEP, number) for number in range(6)] + [NOTHING])
     while True:
         first_size = chance.randrange(1, size - 1, 2)
         kind = chance.choice([SEQUENCE, CHOICE, CHOICE, PARALLEL, LOOP])
@@ -49,13 +49,13 @@ def count_of_runs(tree, full, left):
 
 
 def larger_trees():
-    """Processes of sizes 7 to 11, with rounds, whose runs are few enough to be listed."""
+    """Processes of sizes 7 to 11, with rounds, that have several runs, but few enough to list."""
     chance = random.Random(20261119)
     made = []
     while len(made) < 300:
         tree = shuffled_tree(chance, chance.choice([7, 9, 11]))
         n = chance.choice([1, 2, 3])
-        if count_of_runs(tree, n, n) <= 2000:
+        if 8 <= count_of_runs(tree, n, n) <= 2000:
             made.append((tree, n))
     return made
 
@@ -156,6 +156,10 @@ class ListingTest(unittest.TestCase):
     def test_larger_processes(self):
         for tree, n in larger_trees():
             self.check(tree, n, TIMES, COSTS)
+
+    def test_larger_processes_where_each_quicker_step_is_dearer(self):
+        for tree, n in larger_trees():
+            self.check(tree, n, [1, 2, 4, 7, 9, 3], [30, 25, 19, 11, 2, 22])
 
     def test_larger_processes_where_times_or_costs_are_0_or_the_same(self):
         for tree, n in larger_trees():
