@@ -6,23 +6,21 @@ CALL_PROCESS = 0
 CALL_STEP = 1
 CALL_ROUNDS = 2
 CALL_FRONT = 3
-
-
-class UnknownCall(ValueError):
-    pass
+CALL_BY = 4
+CALL_SOONEST = 5
+CALL_WORST = 6
+CALL_JUDGE = 7
 
 
 def place_after(calls, place):
     call = calls[place]
-    if call == CALL_PROCESS:
+    if call == CALL_PROCESS or call == CALL_JUDGE:
         return place + 2 + calls[place + 1]
     if call == CALL_STEP:
         return place + 4
-    if call == CALL_ROUNDS:
+    if call == CALL_ROUNDS or call == CALL_BY:
         return place + 2
-    if call == CALL_FRONT:
-        return place + 1
-    raise UnknownCall(f"no such call: {call}")
+    return place + 1
 
 
 def answer_of(service, call, handed):
@@ -32,7 +30,15 @@ def answer_of(service, call, handed):
         return service.step(handed[0], handed[1], handed[2])
     if call == CALL_ROUNDS:
         return service.rounds(handed[0])
-    return service.front()
+    if call == CALL_FRONT:
+        return service.front()
+    if call == CALL_BY:
+        return service.by(handed[0])
+    if call == CALL_SOONEST:
+        return service.soonest()
+    if call == CALL_WORST:
+        return service.worst()
+    return service.judge(handed[1:])
 
 
 def answers(calls):

@@ -3,8 +3,10 @@
 Each operation answers the list of its numbers. An error is its code alone.
 """
 
+from processfronts.loops import without_loops
 from processfronts.notation import EMPTY, STEP, constructs_of, has_loop_of_empty
-from processfronts.pairs import front_of
+from processfronts.pairs import front_of, worst_of
+from processfronts.runs import is_run
 
 LAST_STEP = 5
 GREATEST_SIZE = 11
@@ -52,9 +54,39 @@ class Service:
         self.round_count = n
         return [0]
 
+    def unrolled(self):
+        return without_loops(self.constructs, self.round_count)
+
+    def selected_runs(self):
+        return front_of(self.unrolled(), self.times, self.costs)
+
     def front(self):
-        pairs = front_of(self.constructs, self.times, self.costs)
-        numbers = [len(pairs)]
-        for pair in pairs:
-            numbers.extend(pair)
+        entries = self.selected_runs()
+        numbers = [len(entries)]
+        for entry in entries:
+            numbers.extend(entry[0])
         return numbers
+
+    # The costs of a front decrease: the last pair within the time is the cheapest.
+    def by(self, time):
+        within = [entry for entry in self.selected_runs() if entry[0][0] <= time]
+        if len(within) == 0:
+            return [-6]
+        pair = within[-1][0]
+        return [pair[1], pair[0]] + within[-1][1]
+
+    def soonest(self):
+        entry = self.selected_runs()[0]
+        return list(entry[0]) + entry[1]
+
+    def worst(self):
+        return list(worst_of(self.unrolled(), self.times, self.costs))
+
+    # In a run nothing is left to choose, so its worst case is its time and cost.
+    def judge(self, numbers):
+        run = constructs_of(numbers)
+        if run is None:
+            return [-1]
+        if not is_run(run, self.unrolled()):
+            return [0]
+        return [1] + list(worst_of(run, self.times, self.costs))

@@ -1,16 +1,9 @@
 """The call front, by hand, and by the listing of all runs; points 1, 4, 5 and 6."""
 
-import random
 import unittest
 
 from tests import plain
-from tests.plain import CHOICE, EMPTY, LOOP, PARALLEL, SEQUENCE, STEP
-
-# Steps 0 and 1 are a choice of quick and dear or slow and cheap; step 2 comes between.
-TIMES = [1, 5, 3, 0, 100, 2]
-COSTS = [7, 2, 4, 3, 0, 100]
-A, B, C = (STEP, 0), (STEP, 1), (STEP, 2)
-NOTHING = (EMPTY,)
+from tests.plain import A, B, C, CHOICE, COSTS, LOOP, NOTHING, PARALLEL, SEQUENCE, STEP, TIMES
 
 
 def pairs_of(tree, n=2, times=TIMES, costs=COSTS):
@@ -20,44 +13,6 @@ def pairs_of(tree, n=2, times=TIMES, costs=COSTS):
 
 def is_met(pair, pairs):
     return any(other[0] <= pair[0] and other[1] <= pair[1] for other in pairs)
-
-
-def shuffled_tree(chance, size):
-    """Some process of this size that the document allows."""
-    if size == 1:
-        return chance.choice([(STEP, number) for number in range(6)] + [NOTHING])
-    while True:
-        first_size = chance.randrange(1, size - 1, 2)
-        kind = chance.choice([SEQUENCE, CHOICE, CHOICE, PARALLEL, LOOP])
-        tree = (kind, shuffled_tree(chance, first_size), shuffled_tree(chance, size - 1 - first_size))
-        if plain.has_sound_loops(tree):
-            return tree
-
-
-def count_of_runs(tree, full, left):
-    if tree[0] in (STEP, EMPTY):
-        return 1
-    first = count_of_runs(tree[1], full, full)
-    second = count_of_runs(tree[2], full, full)
-    if tree[0] == CHOICE:
-        return first + second
-    if tree[0] != LOOP:
-        return first * second
-    if left == 1:
-        return first
-    return first + first * second * count_of_runs(tree, full, left - 1)
-
-
-def larger_trees():
-    """Processes of sizes 7 to 11, with rounds, that have several runs, but few enough to list."""
-    chance = random.Random(20261119)
-    made = []
-    while len(made) < 300:
-        tree = shuffled_tree(chance, chance.choice([7, 9, 11]))
-        n = chance.choice([1, 2, 3])
-        if 8 <= count_of_runs(tree, n, n) <= 2000:
-            made.append((tree, n))
-    return made
 
 
 class ConstructsTest(unittest.TestCase):
@@ -154,15 +109,15 @@ class ListingTest(unittest.TestCase):
                     self.check(tree, n, TIMES, COSTS)
 
     def test_larger_processes(self):
-        for tree, n in larger_trees():
+        for tree, n in plain.larger_trees():
             self.check(tree, n, TIMES, COSTS)
 
     def test_larger_processes_where_each_quicker_step_is_dearer(self):
-        for tree, n in larger_trees():
+        for tree, n in plain.larger_trees():
             self.check(tree, n, [1, 2, 4, 7, 9, 3], [30, 25, 19, 11, 2, 22])
 
     def test_larger_processes_where_times_or_costs_are_0_or_the_same(self):
-        for tree, n in larger_trees():
+        for tree, n in plain.larger_trees():
             self.check(tree, n, [0, 2, 2, 0, 0, 0], [2, 1, 0, 0, 0, 0])
 
 
@@ -178,7 +133,7 @@ class MonotonyTest(unittest.TestCase):
                         self.assertTrue(is_met(pair, after), (tree, number, less))
 
     def test_point_5_more_rounds(self):
-        cases = [tree for tree, n in larger_trees()] + plain.trees(5, [A, B, NOTHING])
+        cases = [tree for tree, n in plain.larger_trees()] + plain.trees(5, [A, B, NOTHING])
         for tree in cases:
             for before, after in ((1, 2), (2, 3), (1, 3)):
                 after_pairs = pairs_of(tree, after)

@@ -1,6 +1,7 @@
 """What can be measured of how the package is to be written: sizes, signs, words."""
 
 import ast
+import builtins
 import pathlib
 import re
 import unittest
@@ -15,6 +16,12 @@ PARTS_LEFT_OUT = (
     ast.With, ast.Match, ast.Delete, ast.Global, ast.Nonlocal, ast.Assert, ast.Yield, ast.YieldFrom,
     ast.AsyncFunctionDef, ast.Await, ast.DictComp, ast.SetComp, ast.GeneratorExp, ast.NamedExpr, ast.Starred,
     ast.Import, ast.Div, ast.AnnAssign)
+
+OWN_NAMES_OF_PYTHON = (
+    "len", "range", "enumerate", "zip", "min", "max", "sum", "abs", "sorted", "reversed", "int", "str", "bool",
+    "list", "tuple", "dict", "set", "frozenset", "isinstance", "ord", "repr", "any", "all", "divmod")
+
+METHODS_OF_PYTHON = ("append", "copy", "count", "extend", "get", "index", "items", "keys", "pop", "values")
 
 
 def files():
@@ -52,6 +59,25 @@ class LanguageTest(unittest.TestCase):
             for node in ast.walk(ast.parse(path.read_text())):
                 self.assertNotIsInstance(node, PARTS_LEFT_OUT, path.name)
                 self.assertNotIsInstance(getattr(node, "value", None), float, path.name)
+
+    def test_names_are_the_package_s_own_or_left_in(self):
+        for path in files():
+            nodes = list(ast.walk(ast.parse(path.read_text())))
+            bound = {node.name for node in nodes if isinstance(node, (ast.FunctionDef, ast.ClassDef))}
+            bound |= {node.arg for node in nodes if isinstance(node, ast.arg)}
+            bound |= {node.name for node in nodes if isinstance(node, ast.alias)}
+            bound |= {node.id for node in nodes if isinstance(node, ast.Name) and isinstance(node.ctx, ast.Store)}
+            read = {node.id for node in nodes if isinstance(node, ast.Name)}
+            self.assertEqual(sorted(read - bound - set(OWN_NAMES_OF_PYTHON)), [], path.name)
+            self.assertEqual(sorted(bound & set(dir(builtins))), [], path.name)
+
+    def test_methods_are_the_package_s_own_or_left_in(self):
+        parsed = [ast.parse(path.read_text()) for path in files()]
+        nodes = [node for tree in parsed for node in ast.walk(tree)]
+        own = {node.name for node in nodes if isinstance(node, ast.FunctionDef)}
+        called = {node.func.attr for node in nodes
+                  if isinstance(node, ast.Call) and isinstance(node.func, ast.Attribute)}
+        self.assertEqual(sorted(called - own - set(METHODS_OF_PYTHON)), [])
 
     def test_imports_are_the_package_s_own(self):
         for path in files():

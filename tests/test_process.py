@@ -2,12 +2,11 @@
 
 import unittest
 
-from processfronts.service import Service
 from tests import plain
+from tests.plain import GREATEST
 
 STEP_0 = [0, 0]
 EMPTY = [1]
-GREATEST = 4294967295
 
 EMPTY_CAPABLE = {
     "the empty process": EMPTY,
@@ -156,13 +155,9 @@ class ProcessKeepsTest(unittest.TestCase):
         self.assertEqual(plain.last_pairs(*calls, plain.process([0, 1])), [(5, 6)])
 
     def test_rounds_are_kept_over_a_new_process(self):
-        service = Service()
-        service.rounds(3)
-        self.assertEqual(service.process([5, 0, 0, 1]), [3])
-        self.assertEqual(service.round_count, 3)
-        service.rounds(1)
-        self.assertEqual(service.process([1]), [1])
-        self.assertEqual(service.round_count, 1)
+        for n in (1, 2, 3):
+            calls = [plain.rounds(n), plain.process([1]), plain.process([5, 0, 0, 1]), plain.worst()]
+            self.assertEqual(plain.told(*calls), [[0], [1], [3], [n, n]])
 
 
 if __name__ == "__main__":

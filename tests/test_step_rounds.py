@@ -2,10 +2,8 @@
 
 import unittest
 
-from processfronts.service import Service
 from tests import plain
-
-GREATEST = 4294967295
+from tests.plain import GREATEST
 
 
 class StepTest(unittest.TestCase):
@@ -55,12 +53,26 @@ class RoundsTest(unittest.TestCase):
             with self.subTest(n=n):
                 self.assertEqual(plain.told(plain.rounds(n)), [[code]])
 
-    def test_the_number_is_set(self):
-        service = Service()
-        self.assertEqual(service.round_count, 2)
-        for n in (1, 2, 3):
-            service.rounds(n)
-            self.assertEqual(service.round_count, n)
+    def test_the_number_shows_in_worst(self):
+        calls = [plain.process([5, 0, 0, 0, 1]), plain.step(0, 3, 5), plain.step(1, 2, 7)]
+        for n, greatest in ((1, [3, 5]), (2, [8, 17]), (3, [13, 29])):
+            self.assertEqual(plain.told(*calls, plain.rounds(n), plain.worst())[-1], greatest)
+
+    def test_the_number_shows_in_judge(self):
+        calls = [plain.process([5, 0, 0, 0, 1])]
+        twice = [2, 0, 0, 2, 0, 1, 0, 0]
+        thrice = [2, 0, 0, 2, 0, 1, *twice]
+        looks = [plain.judge([0, 0]), plain.judge(twice), plain.judge(thrice)]
+        for n, answers in ((1, [[1, 1, 1], [0], [0]]), (2, [[1, 1, 1], [1, 3, 3], [0]]),
+                           (3, [[1, 1, 1], [1, 3, 3], [1, 5, 5]])):
+            self.assertEqual(plain.told(*calls, plain.rounds(n), *looks)[2:], answers)
+
+    def test_the_number_is_set_again(self):
+        calls = [plain.process([5, 0, 0, 1]), plain.worst()]
+        for n in (3, 1, 2, 3):
+            calls += [plain.rounds(n), plain.worst()]
+        self.assertEqual(plain.told(*calls), [
+            [3], [2, 2], [0], [3, 3], [0], [1, 1], [0], [2, 2], [0], [3, 3]])
 
     def test_times_and_costs_and_process_are_not_changed(self):
         calls = [plain.process([0, 1]), plain.step(1, 5, 6)]
